@@ -1,19 +1,38 @@
-package step
+// Package machine runs a program in place: what one instruction does, for those
+// who do one, and for those who do many.
+package machine
 
 import (
 	"swage/api"
 	"swage/wrap"
 )
 
-// machine is the functions of a verified program, and a state of it that may be
+// Machine is the functions of a verified program, and a state of it that may be
 // (layer 6). So what an instruction takes is always there, and what it names too.
-type machine struct {
+type Machine struct {
 	funcs []api.Func
 	state api.State
 }
 
-func (m *machine) step() {
-	if m.state.Done != api.OutNone {
+// New needs p to be verified, and s to be a state of it that may be. The machine
+// has lists of its own, which it may change in place.
+func New(p api.Program, s api.State) *Machine {
+	return &Machine{funcs: p.Funcs, state: copyOfState(s)}
+}
+
+// State tells where it is by the machine's own lists: its next step may change them.
+func (m *Machine) State() api.State {
+	return m.state
+}
+
+// Runs tells whether there is a step that it has not done yet.
+func (m *Machine) Runs() bool {
+	return m.state.Done == api.OutNone
+}
+
+// Step does one instruction: chapter 7, P7.1.
+func (m *Machine) Step() {
+	if !m.Runs() {
 		return
 	}
 	if m.state.Fuel == 0 {
@@ -29,7 +48,7 @@ func (m *machine) step() {
 }
 
 // do needs f to be the top frame.
-func (m *machine) do(f *api.Frame, kind int, a int) {
+func (m *Machine) do(f *api.Frame, kind int, a int) {
 	switch kind {
 	case api.InsLoad:
 		// A local is put like a constant.
@@ -64,7 +83,7 @@ func (m *machine) do(f *api.Frame, kind int, a int) {
 	}
 }
 
-func (m *machine) operate(f *api.Frame, op int) {
+func (m *Machine) operate(f *api.Frame, op int) {
 	b := take(f)
 	a := take(f)
 	// There is no error: op is one, and whatever stands on a stack is a number.
@@ -76,7 +95,7 @@ func (m *machine) operate(f *api.Frame, op int) {
 	put(f, x)
 }
 
-func (m *machine) call(f *api.Frame, fn int) {
+func (m *Machine) call(f *api.Frame, fn int) {
 	if len(m.state.Frames) == api.MaxDepth {
 		m.end(api.OutDepth, 0)
 		return
@@ -89,7 +108,7 @@ func (m *machine) call(f *api.Frame, fn int) {
 	m.state.Frames = append(m.state.Frames, api.Frame{Fn: fn, Locals: locals})
 }
 
-func (m *machine) ret(value int) {
+func (m *Machine) ret(value int) {
 	below := len(m.state.Frames) - 1
 	if below == 0 {
 		m.end(api.OutValue, value)
@@ -99,13 +118,13 @@ func (m *machine) ret(value int) {
 	put(m.top(), value)
 }
 
-func (m *machine) end(done int, value int) {
+func (m *Machine) end(done int, value int) {
 	m.state.Frames = nil
 	m.state.Done = done
 	m.state.Value = value
 }
 
-func (m *machine) top() *api.Frame {
+func (m *Machine) top() *api.Frame {
 	return &m.state.Frames[len(m.state.Frames)-1]
 }
 

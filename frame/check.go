@@ -2,6 +2,7 @@ package frame
 
 import (
 	"swage/api"
+	"swage/number"
 	"swage/verify"
 )
 
@@ -48,7 +49,7 @@ func (c checker) mayBe(f api.Frame, less int) bool {
 	}
 	height := c.heights[f.Fn][f.Pc]
 	return len(f.Locals) == c.funcs[f.Fn].Locals && len(f.Stack) == height-less &&
-		areNumbers(f.Locals) && areNumbers(f.Stack)
+		number.Are(f.Locals) && number.Are(f.Stack)
 }
 
 // waitsFor tells whether f may be, with a call of fn not yet come back: one less

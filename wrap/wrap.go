@@ -3,11 +3,12 @@ package wrap
 
 import (
 	"swage/api"
+	"swage/number"
 )
 
 // Do tells what a op b is, and whether it is a trap: chapter 1, P1.2.
 func Do(op int, a int, b int) (int, bool, api.Errno) {
-	if !isOp(op) || !isNumber(a) || !isNumber(b) {
+	if !isOp(op) || !number.Is(a) || !number.Is(b) {
 		return 0, false, api.ErrWrapOp
 	}
 	if b == 0 && divides(op) {
@@ -19,10 +20,6 @@ func Do(op int, a int, b int) (int, bool, api.Errno) {
 // Wrap tells the number that differs from x by a multiple of 2^32: chapter 1, P1.1.
 func Wrap(x int) int {
 	return int(int32(x))
-}
-
-func isNumber(x int) bool {
-	return Wrap(x) == x
 }
 
 func isOp(op int) bool {
